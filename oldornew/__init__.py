@@ -1,0 +1,1 @@
+"""Oldornew: states kept in several fields that change in any order."""
