@@ -12,7 +12,11 @@ def box_of(chart, some):
     """
     check_names(chart, some)
     words = words_by_name(chart)
-    rows = [words[name] for name in some]
+    return columns_of([words[name] for name in some])
+
+
+def columns_of(rows):
+    """Return, for each field, the ascending values that stand there in these WORDS."""
     return [tuple(sorted(set(column))) for column in zip(*rows)]
 
 

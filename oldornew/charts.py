@@ -1,6 +1,6 @@
 """CHARTS: states with their WORDS, and the moves between them."""
 
-from oldornew.errors import NoName, Twice
+from oldornew.errors import NoName, NotJoined, Twice
 from oldornew.plain import as_tuples, in_order, is_ascending, is_name, is_number, is_pair
 
 
@@ -84,6 +84,12 @@ def word_of(chart, name):
 def is_joined(chart, one, other):
     check_names(chart, (one, other))
     return other in near_by_name(chart)[one]
+
+
+def check_joined(chart, one, other):
+    """Raise NoName for the first one that is no state, then NotJoined."""
+    if not is_joined(chart, one, other):
+        raise NotJoined(one, other)
 
 
 def neighbours(chart, name):

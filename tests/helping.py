@@ -1,6 +1,7 @@
 """What the tests share: calls made in all the ways that the document allows."""
 
 import copy
+import random
 import unittest
 from importlib import import_module
 from itertools import combinations, product
@@ -44,6 +45,46 @@ INTERFACE = {
         "how_many_common": "chart lots",
         "parting_fields": "chart lots",
         "are_parted": "chart lots",
+    },
+    "right": {
+        "is_right": "chart long",
+        "longest_look": "chart",
+        "bar": "chart long",
+        "is_bar": "chart long thing",
+        "unparted_pairs": "chart long",
+        "unparted_threes": "chart",
+        "events_at": "chart long word",
+    },
+    "readers": {
+        "met_words": "chart long",
+        "may_tell": "chart long word",
+        "a_reader": "chart long",
+        "is_reader": "chart long thing",
+        "tells": "reader word",
+        "wrongly_told": "chart long reader",
+    },
+    "steady": {
+        "a_steady": "chart",
+        "is_steady": "chart thing",
+        "told_along": "chart reader one other order",
+        "flicker": "chart reader",
+        "is_flicker": "chart reader thing",
+        "must_tell": "chart one other",
+        "can_be_steady": "chart kept",
+        "steady_with": "chart kept",
+        "how_many_steady": "chart",
+        "fewest_to_mend": "chart reader",
+        "mended": "chart reader",
+    },
+    "bits": {
+        "to_part": "chart long",
+        "has_bits": "chart long",
+        "meeting_family": "chart long",
+        "is_meeting_family": "chart long thing",
+        "is_cut_list": "chart long thing",
+        "bits_by": "chart cuts",
+        "fewest_cuts": "chart long",
+        "some_cuts": "chart long",
     },
 }
 FILE_OF = {name: file for file, functions in INTERFACE.items() for name in functions}
@@ -116,6 +157,14 @@ class Checks(unittest.TestCase):
         for other in found[1:]:
             self.assertEqual(other, found[0], f"{name}{args}")
         return found[0]
+
+    def is_new(self, name, *args):
+        """Each returned list is the caller's own: what is done to it stays without effect."""
+        first, text = function_called(name)(*args), self.outcome(name, args)[0]
+        self.assertIsInstance(first, list)
+        self.assertIsNot(function_called(name)(*args), first)
+        first.append("more")
+        self.assertEqual(self.outcome(name, args)[0], text)
 
     def gives(self, expected, name, *args):
         """The call returns what is expected, in kind and in value."""
@@ -195,6 +244,22 @@ def small_charts():
         moves = tuple(pair for bit, pair in enumerate(pairs) if chosen >> bit & 1)
         states = tuple((name, words[(chosen // 6 ** at + at) % 6]) for at, name in enumerate("abcd"))
         yield (2, 3), states, moves
+
+
+def drawn_chart(draw, many, sizes, moves):
+    """A CHART of so many states, with drawn WORDS and at most so many drawn moves."""
+    everyone = LETTERS[:many]
+    pairs = list(combinations(everyone, 2))
+    chosen = draw.sample(pairs, min(moves, len(pairs)))
+    states = tuple((name, tuple(draw.randrange(size) for size in sizes)) for name in everyone)
+    return tuple(sizes), states, tuple(sorted(chosen))
+
+
+def drawn_charts(seed, charts, states=4, sizes=(2, 3), moves=4):
+    """So many drawn CHARTS, each time the same ones; each has at most so many states and moves."""
+    draw = random.Random(seed)
+    for _ in range(charts):
+        yield drawn_chart(draw, draw.randint(1, states), sizes, draw.randint(0, moves))
 
 
 def sets_of(things, least):

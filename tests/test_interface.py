@@ -20,6 +20,18 @@ def imported_files(tree):
     return [node.module for node in ast.walk(tree) if isinstance(node, ast.ImportFrom)]
 
 
+def needed_by(file):
+    """The files of the package that a file imports, and those that these import, and so on."""
+    found, left = set(), [file]
+    while left:
+        text = (PACKAGE / (left.pop().split(".")[1] + ".py")).read_text(encoding="utf-8")
+        for needed in imported_files(ast.parse(text)):
+            if needed.startswith("oldornew.") and needed not in found:
+                found.add(needed)
+                left.append(needed)
+    return found
+
+
 class TestInterface(unittest.TestCase):
     def test_each_function_is_defined_in_its_file(self):
         for file, functions in INTERFACE.items():
@@ -44,10 +56,8 @@ class TestInterface(unittest.TestCase):
         order = ["oldornew." + file for file in ("errors", *INTERFACE)]
         for at, file in enumerate(order):
             import_module(file)
-            text = (PACKAGE / (file.split(".")[1] + ".py")).read_text(encoding="utf-8")
-            for needed in imported_files(ast.parse(text)):
-                with self.subTest(file):
-                    self.assertNotIn(needed, order[at:])
+            with self.subTest(file):
+                self.assertFalse(needed_by(file) & set(order[at:]))
 
 
 class TestForm(unittest.TestCase):
