@@ -186,3 +186,104 @@ def in_bits(chart, cuts):
     """The CHART with a field for each CUT."""
     states = tuple((name, tuple(int(name not in cut) for cut in cuts)) for name in named(chart))
     return (2,) * len(cuts), states, chart[2]
+
+
+def led_to(chart, start, barred=()):
+    """All states to which moves lead from this one, itself, too, by moves that are not barred."""
+    reached = {start}
+    while True:
+        more = {name for move in chart[2] if move not in barred and reached & set(move) for name in move}
+        if more <= reached:
+            return tuple(sorted(reached))
+        reached |= more
+
+
+def parts(chart):
+    return sorted({led_to(chart, name) for name in named(chart)})
+
+
+def has_move(chart, one, other):
+    return (one, other) in chart[2] or (other, one) in chart[2]
+
+
+def rings(chart):
+    for many in range(3, len(chart[1]) + 1):
+        for some in permutations(named(chart), many):
+            if all(has_move(chart, *pair) for pair in zip(some, (*some[1:], some[0]))):
+                yield some
+
+
+@lru_cache
+def lumps(chart):
+    in_rings = [{tuple(sorted(pair)) for pair in zip(some, (*some[1:], some[0]))} for some in rings(chart)]
+    found = set()
+    for move in chart[2]:
+        tied = [other for other in chart[2] if other == move or any({move, other} <= some for some in in_rings)]
+        found.add(tuple(sorted({name for pair in tied for name in pair})))
+    return sorted(found)
+
+
+def sides(chart, lump):
+    within = [move for move in chart[2] if set(move) <= set(lump)]
+    return tuple(led_to(chart, name, within) for name in lump)
+
+
+def fields_apart(chart, some_sets):
+    """The fields at which no value is that of states of two of these sets."""
+    found = []
+    for field in range(len(chart[0])):
+        values = [{word_in(chart, name)[field] for name in some} for some in some_sets]
+        if not any(meets(*pair) for pair in combinations(values, 2)):
+            found.append(field)
+    return tuple(found)
+
+
+@lru_cache
+def events_of_any_length(chart):
+    """All sets of NAMES of walks, of however many moves."""
+    found, fresh = set(), {(name,) for name in named(chart)}
+    while fresh:
+        found |= fresh
+        grown = {tuple(sorted({*some, name})) for some in fresh for name in named(chart)
+                 if any(has_move(chart, name, other) for other in some)}
+        fresh = grown - found
+    return sorted(found)
+
+
+def always_told(chart, word):
+    """The states that are in all sets of events_of_any_length that show the WORD; None if none shows it."""
+    some = [event for event in events_of_any_length(chart) if is_shown(chart, event, word)]
+    return common(some) if some else None
+
+
+def reflected(sizes, number):
+    if not sizes:
+        return ()
+    rest = 1
+    for size in sizes[1:]:
+        rest *= size
+    value, left = number // rest, number % rest
+    return (value, *reflected(sizes[1:], left if value % 2 == 0 else rest - 1 - left))
+
+
+def shifted(bits):
+    """All WORDS of the SHIFTED code, in their order."""
+    first = ["1" * number + "0" * (bits - number) for number in range(bits)]
+    return [tuple(map(int, row)) for row in first + [row.translate({48: "1", 49: "0"}) for row in first]]
+
+
+def with_moves(chart, more):
+    return chart[0], chart[1], tuple(sorted({*chart[2], *more}))
+
+
+def pairs_unjoined(chart):
+    return [pair for pair in combinations(named(chart), 2) if pair not in chart[2]]
+
+
+def sets_to_join(chart):
+    """All sets of moves that can be put in together so that the CHART is right over 1."""
+    pairs = pairs_unjoined(chart)
+    for many in range(len(pairs) + 1):
+        for some in combinations(pairs, many):
+            if is_right(with_moves(chart, some), 1):
+                yield some
