@@ -53,17 +53,23 @@ def may_tell(chart, long, word):
 
 
 def a_reader(chart, long):
-    may = may_by_word(chart, long)
+    return least_reader(may_by_word(chart, long))
+
+
+def least_reader(may):
+    """Return the least READER that tells, at each WORD of may, what may be told there."""
     if not is_full(may):
         raise NoReader()
     return reader_of({word: may[word][0] for word in may})
 
 
 def is_reader(chart, long, thing):
-    if not is_some_reader(chart, thing):
-        return False
-    told = told_by(thing)
-    may = may_by_word(chart, long)
+    return is_some_reader(chart, thing) and is_told(may_by_word(chart, long), thing)
+
+
+def is_told(may, reader):
+    """Tell whether the READER tells, at each WORD of may, what may be told there."""
+    told = told_by(reader)
     return all([told.get(word) in may[word] for word in may])
 
 

@@ -129,6 +129,54 @@ INTERFACE = {
         "some_joins": "chart",
         "is_some_joins": "chart thing",
     },
+    "orders": {
+        "row_by": "chart one other order",
+        "shown_by": "chart order",
+        "has_right_by": "chart order",
+        "bar_by": "chart order",
+        "is_bar_by": "chart order thing",
+        "a_reader_by": "chart order",
+        "is_reader_by": "chart order thing",
+        "has_steady_by": "chart order",
+        "a_steady_by": "chart order",
+        "is_steady_by": "chart order thing",
+        "right_orders": "chart",
+        "steady_orders": "chart",
+    },
+    # A class alone: METHODS tells what it has.
+    "board": {},
+    "texts": {
+        "word_text": "word",
+        "walk_text": "walk",
+        "lots_text": "lots",
+        "chart_text": "chart",
+        "chart_read": "text",
+        "reader_text": "reader",
+        "reader_read": "text",
+        "word_read": "text",
+        "walk_read": "text",
+        "lots_read": "text",
+    },
+    "desk": {
+        "is_request": "thing",
+        "replies": "chart name text",
+    },
+}
+# The methods of the class Board, and the names of their arguments.
+METHODS = {
+    "chart": "",
+    "word": "",
+    "ends": "",
+    "is_at_rest": "",
+    "fields_left": "",
+    "start": "name",
+    "change": "field",
+    "finish": "",
+    "look": "reader",
+    "fits": "reader",
+    "undo": "",
+    "deeds": "",
+    "twin": "",
 }
 FILE_OF = {name: file for file, functions in INTERFACE.items() for name in functions}
 

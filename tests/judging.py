@@ -287,3 +287,67 @@ def sets_to_join(chart):
         for some in combinations(pairs, many):
             if is_right(with_moves(chart, some), 1):
                 yield some
+
+
+def row_by(chart, one, other, order):
+    word, goal = list(word_in(chart, one)), word_in(chart, other)
+    row = [tuple(word)]
+    for field in order:
+        if word[field] != goal[field]:
+            word[field] = goal[field]
+            row.append(tuple(word))
+    return tuple(row)
+
+
+def both_ways(chart):
+    return [*chart[2], *((other, one) for one, other in chart[2])]
+
+
+def showing_by(chart, order):
+    """For each WORD that is shown by the order, the EVENTS over 1 that show it, ascending."""
+    shown = [(word_in(chart, name), (name,)) for name in named(chart)]
+    for one, other in both_ways(chart):
+        shown += [(word, tuple(sorted((one, other)))) for word in row_by(chart, one, other, order)]
+    return {word: sorted({event for other, event in shown if other == word}) for word, _ in sorted(shown)}
+
+
+def may_by(chart, order):
+    return {word: common(some) for word, some in showing_by(chart, order).items()}
+
+
+def is_right_by(chart, order, reader):
+    told = dict(reader)
+    showing = showing_by(chart, order)
+    return all(told.get(word) in event for word in showing for event in showing[word])
+
+
+def is_steady_by(chart, order, reader):
+    told = dict(reader)
+    if not is_right_by(chart, order, reader):
+        return False
+    rows = [(row_by(chart, *pair, order), pair) for pair in both_ways(chart)]
+    return all(changes_once(tuple(told[word] for word in row), *pair) for row, pair in rows)
+
+
+def how_many_right_by(chart, order):
+    many = 1
+    for able in may_by(chart, order).values():
+        many *= len(able)
+    return many
+
+
+def right_readers_by(chart, order):
+    """All READERS that are right by the order and tell just at the WORDS that are shown."""
+    may = may_by(chart, order)
+    for names in product(*(may[word] for word in sorted(may))):
+        yield tuple(zip(sorted(may), names))
+
+
+def must_turn_back(chart, order):
+    """Whether in some row a WORD that must tell its last state stands ahead of one that must tell its first."""
+    may = may_by(chart, order)
+    for one, other in both_ways(chart):
+        able = [may[word] for word in row_by(chart, one, other, order)]
+        if any(able[at] == (other,) and (one,) in able[at:] for at in range(len(able))):
+            return True
+    return False

@@ -6,7 +6,7 @@ import unittest
 from importlib import import_module
 from pathlib import Path
 
-from tests.helping import INTERFACE, function_called, parameters_of
+from tests.helping import INTERFACE, METHODS, function_called, parameters_of
 
 PACKAGE = Path(__file__).resolve().parent.parent / "oldornew"
 LIBRARY = ("heapq", "math", "itertools", "collections", "__future__")
@@ -51,6 +51,17 @@ class TestInterface(unittest.TestCase):
                     for label in given.values():
                         self.assertEqual(label.kind, inspect.Parameter.POSITIONAL_OR_KEYWORD)
                         self.assertIs(label.default, inspect.Parameter.empty)
+
+    def test_the_class_defines_its_methods_itself(self):
+        tree = ast.parse((PACKAGE / "board.py").read_text(encoding="utf-8"))
+        (defined,) = [node for node in tree.body if isinstance(node, ast.ClassDef) and node.name == "Board"]
+        given = {node.name: [arg.arg for arg in node.args.args] for node in defined.body
+                 if isinstance(node, ast.FunctionDef)}
+        for name, labels in METHODS.items():
+            with self.subTest(name):
+                self.assertEqual(given[name], ["self", *labels.split()])
+        self.assertEqual(given["__init__"], ["self", "chart", "name"])
+        self.assertEqual(import_module("oldornew.board").Board.__bases__, (object,))
 
     def test_each_file_needs_only_those_ahead_of_it(self):
         order = ["oldornew." + file for file in ("errors", *INTERFACE)]
