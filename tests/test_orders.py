@@ -31,6 +31,13 @@ NEAR = ((3, 3, 3), (("a", (0, 1, 2)), ("b", (0, 2, 2)), ("c", (2, 2, 1))), (("a"
 WIDE = ((2,) * 6, (("a", (0,) * 6), ("b", (1,) * 6), ("c", (0, 1) * 3)), (("a", "b"),))
 
 
+# In the row from a to b, or back, one move more tells early, or late, what is to be told.
+HALF_LOOSE = tuple((chart[0], tuple(state for state in chart[1] if state[0] != name),
+                    tuple(move for move in chart[2] if name not in move)) for chart in (LOOSE, SLACK) for name in "cd")
+# All three moves are shown at 0 0 0, where d is at rest.
+FOUR = (THREE[0], (*THREE[1], ("d", (0, 0, 0))), THREE[2])
+
+
 def turned(chart, places):
     """The CHART with its fields at other places, and their order from 0 on told by these."""
     states = tuple((name, tuple(word[place] for place in places)) for name, word in chart[1])
@@ -54,6 +61,8 @@ def cases():
         if at % 17 == 0:
             yield turned(LOOSE, places)
             yield turned(SLACK, places)
+        if at % 7 == 0:
+            yield turned(HALF_LOOSE[at % 4], places)
     yield LOOSE, (3, 1, 0, 4, 2)
     yield WIDE, (5, 3, 1, 0, 2, 4)
 
@@ -184,17 +193,17 @@ class TestBarBy(Checks):
         self.gives(((0,), (("a",), ("b",))), "bar_by", JOINED_TWINS, (0,))
 
     def test_two_events_come_ahead_of_three(self):
-        # At 0 0 0 all three moves are shown; d is at rest there, too.
-        chart = (THREE[0], (*THREE[1], ("d", (0, 0, 0))), THREE[2])
-        self.gives(((0, 0, 0), (("a", "b"), ("d",))), "bar_by", chart, (0, 1, 2))
-        self.gives(True, "is_bar_by", chart, (0, 1, 2), ((0, 0, 0), (("a", "b"), ("a", "c"), ("b", "c"))))
-        self.gives(True, "is_bar_by", chart, (0, 1, 2), ((0, 0, 0), (("a", "b"), ("a", "c"), ("d",))))
+        three = (("a", "b"), ("a", "c"), ("b", "c"))
+        self.gives(((0, 0, 0), (("a", "b"), ("d",))), "bar_by", FOUR, (0, 1, 2))
+        self.gives(True, "is_bar_by", FOUR, (0, 1, 2), ((0, 0, 0), three))
+        self.gives(True, "is_bar_by", FOUR, (0, 1, 2), ((0, 0, 0), (*three[:2], ("d",))))
+        self.gives(False, "is_bar_by", FOUR, (0, 1, 2), ((0, 0, 0), (*three, ("d",))))
 
 
 class TestIsBarBy(Checks):
     def test_all_families_at_all_words(self):
         for chart, order in ((REST, (1, 0, 2)), (THREE, (0, 1, 2)), (TWINS, (0,)), (JOINED_TWINS, (0,)),
-                             (CUBE, (2, 0, 1)), (SQUARE, (1, 0)), (ring(3), (0,))):
+                             (CUBE, (2, 0, 1)), (SQUARE, (1, 0)), (ring(3), (0,)), (FOUR, (2, 1, 0))):
             showing = judging.showing_by(chart, order)
             for many in range(5):
                 for family in combinations(judging.all_events(chart, 1), many):
